@@ -1,0 +1,1 @@
+"""Bidclear: buyers and sellers meet at one price."""
