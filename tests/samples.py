@@ -4,6 +4,10 @@ from itertools import product
 
 from tests.plain import MOST, TOP
 
+HUGE = int("7" * 40)
+
+NO_PRICES = (-1, TOP + 1, -TOP, 2 * TOP, HUGE, -HUGE)
+
 NO_NUMBERS = (True, False, "5", "", b"5", None, [], [5], (5,), {}, {5: 5}, {5}, 5.0, float("nan"), 5j, int, len)
 
 # Each with a name, its wishes, and the least and the greatest price that
@@ -54,6 +58,39 @@ class Rule:
     def wish(self, least, most, amount):
         side = ("buy", "sell")[self.below(2)]
         return side, self.between(least, most), self.between(1, amount)
+
+    def pieces(self, wishes):
+        """Pieces for wishes: nought, one, all but one, all, and any number between."""
+        told = []
+        for _, _, amount in wishes:
+            told.append((0, 0, 1, amount - 1, amount, self.between(0, amount))[self.below(6)])
+        return told
+
+    def even_pieces(self, wishes):
+        """Pieces of which both sides have as many, dealt out to whoever comes by."""
+        told = [0] * len(wishes)
+        buyers = [number for number, wish in enumerate(wishes) if wish[0] == "buy"]
+        sellers = [number for number, wish in enumerate(wishes) if wish[0] == "sell"]
+        for _ in range(2 * len(wishes) if buyers and sellers else 0):
+            buyer, seller = buyers[self.below(len(buyers))], sellers[self.below(len(sellers))]
+            many = min(wishes[buyer][2] - told[buyer], wishes[seller][2] - told[seller])
+            if self.below(2):
+                many = self.between(0, many)
+            told[buyer] += many
+            told[seller] += many
+        return told
+
+
+def some_of(things, rule, many):
+    """All of the things where they are few, and else so many of them by the rule."""
+    if len(things) <= many:
+        return things
+    return [things[rule.below(len(things))] for _ in range(many)]
+
+
+def every_list(seed, many=400):
+    """The known lists, some hundreds of made ones and the long ones."""
+    return [known[1] for known in KNOWN] + made_lists(seed, many) + long_lists(seed + 1)
 
 
 def made_lists(seed, many):

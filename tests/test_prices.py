@@ -7,15 +7,7 @@ from bidclear.errors import BadPrice, BidError
 from bidclear.prices import clears, highest, lowest, price_by
 from bidclear.wishes import TOP
 from tests.plain import plain_clearing, plain_clears, plain_nearest, turning_prices
-from tests.samples import KNOWN, NO_NUMBERS, Rule, long_lists, made_lists, small_lists
-
-HUGE = int("7" * 40)
-BEYOND = (-1, TOP + 1, -TOP, 2 * TOP, HUGE, -HUGE)
-
-
-def every_list():
-    """The known lists, some hundreds of made ones and the long ones."""
-    return [known[1] for known in KNOWN] + made_lists(21, 400) + long_lists(22)
+from tests.samples import KNOWN, NO_NUMBERS, NO_PRICES, Rule, every_list, long_lists, made_lists, small_lists
 
 
 def asked_olds(wishes, rule):
@@ -61,7 +53,7 @@ class Clears(unittest.TestCase):
             self.assert_clears(wishes, price, known)
 
     def test_against_point_4(self):
-        for wishes in every_list():
+        for wishes in every_list(21):
             for price in turning_prices(wishes, TOP // 2):
                 self.assert_clears(wishes, price, plain_clears(wishes, price))
 
@@ -83,7 +75,7 @@ class LowestAndHighest(unittest.TestCase):
                 self.assert_ends(wishes, least, greatest)
 
     def test_both_ends_clear_and_nothing_beyond(self):
-        for wishes in every_list():
+        for wishes in every_list(21):
             low, high = lowest(wishes), highest(wishes)
             self.assertTrue(0 <= low <= high <= TOP, wishes)
             for price in (low, high):
@@ -94,14 +86,14 @@ class LowestAndHighest(unittest.TestCase):
 
     def test_every_price_between_clears(self):
         rule = Rule(23)
-        for wishes in every_list():
+        for wishes in every_list(21):
             low, high = lowest(wishes), highest(wishes)
             between = [price for price in turning_prices(wishes) if low <= price <= high]
             for price in (*between, (low + high) // 2, rule.between(low, high), rule.between(low, high)):
                 self.assertTrue(plain_clears(wishes, price) and clears(wishes, price), (wishes, price))
 
     def test_against_point_4(self):
-        for wishes in every_list():
+        for wishes in every_list(21):
             clearing = plain_clearing(wishes)
             self.assert_ends(wishes, clearing[0], clearing[-1])
 
@@ -140,7 +132,7 @@ class PriceBy(unittest.TestCase):
 
     def test_against_the_nearest_one(self):
         rule = Rule(24)
-        for wishes in every_list():
+        for wishes in every_list(21):
             for old in asked_olds(wishes, rule):
                 self.assert_price(wishes, old, plain_nearest(wishes, old))
 
@@ -152,13 +144,13 @@ class PriceBy(unittest.TestCase):
 
     def test_a_price_by_itself_stays(self):
         rule = Rule(25)
-        for wishes in every_list():
+        for wishes in every_list(21):
             price = price_by(wishes, rule.between(0, TOP))
             self.assert_price(wishes, price, price)
 
     def test_no_price(self):
         for wishes in ([], [("buy", 10, 5), ("sell", 4, 5)], *long_lists(26)[:2]):
-            for old in (*BEYOND, *NO_NUMBERS):
+            for old in (*NO_PRICES, *NO_NUMBERS):
                 for caught in (BadPrice, BidError, ValueError):
                     with self.assertRaises(caught):
                         price_by(wishes, old)
@@ -166,7 +158,7 @@ class PriceBy(unittest.TestCase):
 
 class Unchanged(unittest.TestCase):
     def test_the_lists_stay_as_they_were(self):
-        for wishes in every_list():
+        for wishes in every_list(21):
             before = list(wishes)
             for price in (0, 3, TOP):
                 clears(wishes, price)

@@ -7,9 +7,7 @@ from bidclear import wishes as module
 from bidclear.errors import BadWish, BidError
 from bidclear.wishes import MOST, TOP, checked, offered, wanted
 from tests.plain import plain_offered, plain_wanted, turning_prices
-from tests.samples import KNOWN, NO_NUMBERS, long_lists, made_lists
-
-HUGE = int("7" * 40)
+from tests.samples import HUGE, KNOWN, NO_NUMBERS, long_lists, made_lists
 
 
 class Stubborn:
