@@ -16,8 +16,8 @@ def check_pieces(wishes, pieces):
 
 def buyers_in_turn(wishes, price):
     """List the numbers of the buyers who would pay the price, as they go ahead."""
-    # Less than nought, the limits rise where the greater one goes ahead; of
-    # equal ones the number decides.
+    # With the sign of the limits turned, a rising order puts the greater limit
+    # first, and of equal ones the lesser number.
     turns = [
         (-limit, number)
         for number, (side, limit, amount) in enumerate(wishes)

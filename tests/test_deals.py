@@ -139,7 +139,8 @@ class Gain(unittest.TestCase):
             self.assert_gain(("buy", 10, 5), price, pieces, known)
 
     def test_a_seller(self):
-        for price, pieces, known in ((7, 3, -9), (10, 3, 0), (12, 3, 6), (0, 3, -30), (7, 0, 0), (7, 1, -3), (13, 5, 15)):
+        for price, pieces, known in ((7, 3, -9), (10, 3, 0), (12, 3, 6), (0, 3, -30), (7, 0, 0), (7, 1, -3),
+                                     (13, 5, 15)):
             self.assert_gain(("sell", 10, 5), price, pieces, known)
 
     def test_prices_and_pieces_below_nought_and_beyond_all_bounds(self):

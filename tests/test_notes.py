@@ -124,8 +124,8 @@ class Read(unittest.TestCase):
 
     def test_beyond_the_bounds(self):
         for line in ("buy 0 at 7", "sell 0 at 0", f"buy {MOST + 1} at 7", f"sell 5 at {TOP + 1}",
-                     f"buy 0 at {TOP + 1}", f"sell {MOST + 1} at {TOP + 1}", f"buy {TOP} at {TOP}", f"buy {10 * MOST} at 7",
-                     f"sell 5 at {10 * TOP}"):
+                     f"buy 0 at {TOP + 1}", f"sell {MOST + 1} at {TOP + 1}", f"buy {TOP} at {TOP}",
+                     f"buy {10 * MOST} at 7", f"sell 5 at {10 * TOP}"):
             self.assert_bad_wish(line)
 
     def test_another_form_comes_before_a_number_beyond_its_bounds(self):
